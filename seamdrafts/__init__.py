@@ -1,0 +1,1 @@
+"""Seamhall: drafts of garments, read and printed. The calls are in seamdrafts.drafts."""

@@ -1,0 +1,24 @@
+"""The refusals: each a class with its number and the signed numbers that are told with it."""
+
+
+class Refusal(Exception):
+    """What the calls' refusals have in common."""
+
+    def __init__(self, number, signed):
+        Exception.__init__(self, "refused")
+        self.number = number
+        self.signed = signed
+
+
+class TooLong(Refusal):
+    """A text is longer than may be."""
+
+    def __init__(self):
+        Refusal.__init__(self, -1, [])
+
+
+class NoDraft(Refusal):
+    """A text is no draft's: its fault's kind and place."""
+
+    def __init__(self, kind, place):
+        Refusal.__init__(self, -2, [kind, place])
