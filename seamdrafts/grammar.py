@@ -8,6 +8,9 @@ the same whatever blanks, remarks, noughts and needless parentheses its text has
 from seamdrafts.refusals import NoDraft
 from seamdrafts.tokens import BAD, END, NAME, NUMBER, tokens_of
 
+# Steps that no token tells by itself: a number's name, a point's name, a - of a factor, two sums as a point.
+SUM_NAME = "name in a sum"
+PLACE_NAME = "name of a place"
 NEGATIVE = "negative"
 PAIR = "pair"
 
@@ -36,6 +39,17 @@ PARTS = {
     "turn": ("place", "place", "place", "place"),
     "shift": ("place", "sum", "sum"),
 }
+
+
+def how_many_parts(what):
+    """Of how many parts a step makes something; 0 for a name or a number."""
+    if what in (SUM_NAME, PLACE_NAME, NUMBER):
+        return 0
+    if what == NEGATIVE:
+        return 1
+    if what in PARTS:
+        return len(PARTS[what])
+    return 2
 
 
 class Reader:
@@ -103,7 +117,7 @@ def read_factor(reader, depth, steps):
     """Reads a factor; at the deepest what would want something deeper is the fault itself."""
     kind = reader.here()
     if kind == NAME:
-        steps.append((NAME, reader.take(NAME)))
+        steps.append((SUM_NAME, reader.take(NAME)))
     elif kind == NUMBER:
         steps.append((NUMBER, plain_number(reader.take(NUMBER))))
     elif depth == DEEPEST:
@@ -127,7 +141,7 @@ def read_place(reader, depth, steps):
     """Reads a place that stands this deep and puts its steps behind the others."""
     kind = reader.here()
     if kind == NAME:
-        steps.append((NAME, reader.take(NAME)))
+        steps.append((PLACE_NAME, reader.take(NAME)))
     elif depth == DEEPEST:
         reader.refuse()
     elif kind == "(":

@@ -1,7 +1,8 @@
 """Prints a draft in its one form."""
 
-from seamdrafts.grammar import NEGATIVE, PAIR, PARTS, PLACE_WORDS, SUM_WORDS
-from seamdrafts.tokens import NAME, NUMBER
+from seamdrafts.grammar import NEGATIVE, PAIR, PARTS, PLACE_NAME, PLACE_WORDS, SUM_NAME, SUM_WORDS
+from seamdrafts.texts import bytes_of
+from seamdrafts.tokens import NUMBER
 
 # How firmly a sum's printed part holds together: one less firm than is wanted gets parentheses.
 SUM = 0
@@ -39,7 +40,7 @@ def tokens_of_steps(steps):
     """The tokens of a sum or a place, with as few parentheses as read the same."""
     parts = []
     for what, text in steps:
-        if what in (NAME, NUMBER):
+        if what in (NUMBER, SUM_NAME, PLACE_NAME):
             parts.append((FACTOR, [text]))
         elif what == NEGATIVE:
             parts.append((FACTOR, ["-"] + at_least(FACTOR, parts.pop())))
@@ -93,4 +94,4 @@ def text_of_tokens(tokens):
 def printed(statements):
     """The printed form of a draft, as bytes."""
     lines = [text_of_tokens(tokens_of_statement(statement) + [";"]) + "\n" for statement in statements]
-    return [ord(sign) for sign in "".join(lines)]
+    return bytes_of("".join(lines))

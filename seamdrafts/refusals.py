@@ -22,3 +22,17 @@ class NoDraft(Refusal):
 
     def __init__(self, kind, place):
         Refusal.__init__(self, -2, [kind, place])
+
+
+class NoTable(Refusal):
+    """A text is no table's: its first line that can't stand."""
+
+    def __init__(self, line):
+        Refusal.__init__(self, -3, [line, 0])
+
+
+class NotWorked(Refusal):
+    """A draft can't be worked over a table: its fault's statement and kind."""
+
+    def __init__(self, statement, kind):
+        Refusal.__init__(self, -5, [statement, kind])

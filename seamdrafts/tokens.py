@@ -1,5 +1,7 @@
 """Cuts a draft's text into tokens."""
 
+from seamdrafts.texts import text_of
+
 NAME = "name"
 NUMBER = "number"
 END = "end"
@@ -10,17 +12,9 @@ WORDS = (
     "between", "meet", "foot", "mirror", "turn", "shift",
 )
 SIGNS = "(),=+-*/;"
-KNOWN = "ABCDEFGHIJKLMNOPQRSTUVWXYZabcdefghijklmnopqrstuvwxyz0123456789(),=+-*/;.# \n"
-STRANGER = "?"
 
 LONGEST_NAME = 16
 MOST_DIGITS = 18
-
-
-def text_of(t):
-    """The bytes t as a text of as many signs, so that places stay the same."""
-    known = dict([(ord(sign), sign) for sign in KNOWN])
-    return "".join([known.get(byte, STRANGER) for byte in t])
 
 
 def past_blanks(text, at):
@@ -81,6 +75,11 @@ def kind_of(part):
     if part[0].isdigit() and max([len(row) for row in part.split(".")]) <= MOST_DIGITS:
         return NUMBER
     return BAD
+
+
+def is_name(text):
+    """Whether a text by itself is a name, and no word."""
+    return text.isalnum() and kind_of(text) == NAME
 
 
 def tokens_of(t):

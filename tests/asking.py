@@ -1,10 +1,13 @@
 """What the tests of drafts share: asking a call, looking at its answer's shape, sample drafts."""
 
 import unittest
+from fractions import Fraction
 
-from seamdrafts.drafts import print_of, read
+from seamdrafts.drafts import draft, print_of, read, value
 
 WORDS = "let point piece seam grain x y min max between meet foot mirror turn shift".split()
+
+FINEST = 2 ** 62
 
 # Every statement, sum and place there is, in printed form.
 WHOLE_DRAFT = """\
@@ -23,6 +26,20 @@ piece back (P, Q, R) grain Q R;
 seam front P Q, back R P;
 """
 
+# A draft that can be worked, of 7 statements: a 4 by 3 rectangle, and the half of it, with a side of 5.
+WORKED_DRAFT = """\
+let a = 2;
+point O = (0, 0);
+point A = (4, 0);
+point B = (4, 3);
+point C = (0, 3);
+piece front (O, A, B, C) grain O C;
+piece back (O, A, B) grain O A;
+"""
+
+# Measures at the finest, and others.
+TABLE = "f 4611686018427387904\ng -4611686018427387904\nh 1/4611686018427387904\nwaist 171/2\nnought 0\n"
+
 
 def byte_list(text):
     """A text or bytes as the list of numbers that the calls take."""
@@ -32,16 +49,16 @@ def byte_list(text):
 
 
 class DraftCase(unittest.TestCase):
-    def ask(self, call, text):
+    def ask(self, call, *texts):
         """The call's answer; what was handed in must be as it was, and asking again must answer the same."""
-        t = byte_list(text)
-        kept = list(t)
-        answer = call(t)
+        given = [byte_list(text) for text in texts]
+        kept = [list(one) for one in given]
+        answer = call(*given)
         self.assertIs(type(answer), list)
         for number in answer:
             self.assertIs(type(number), int)
-        self.assertEqual(t, kept)
-        self.assertEqual(call(t), answer)
+        self.assertEqual(given, kept)
+        self.assertEqual(call(*given), answer)
         return answer
 
     def assert_count(self, text, count):
@@ -54,9 +71,10 @@ class DraftCase(unittest.TestCase):
         self.assertEqual(answer, [len(told), len(told)] + told + [0])
 
     def assert_fault(self, text, kind, place):
-        """Both calls refuse the text, with this fault's kind and place."""
+        """All calls refuse the text, with this fault's kind and place."""
+        fault = [-2, 0, 2, kind, place]
         for call in (read, print_of):
-            self.assertEqual(self.ask(call, text), [-2, 0, 2, kind, place], text)
+            self.assertEqual(self.ask(call, text), fault, text)
 
     def assert_too_long(self, text):
         for call in (read, print_of):
@@ -66,3 +84,43 @@ class DraftCase(unittest.TestCase):
         """The fault is where the sign @ stands in the text, which is handed in without it."""
         place = marked.index("@")
         self.assert_fault(marked.replace("@", ""), kind, place)
+
+
+class WorkCase(DraftCase):
+    def assert_number(self, text, name, number, table=TABLE):
+        """The name means this number behind all statements."""
+        wanted = Fraction(number)
+        answer = self.ask(value, text, table, name)
+        self.assertEqual(answer, [1, 0, 2, wanted.numerator, wanted.denominator], text)
+
+    def assert_point(self, text, name, x, y, table=TABLE):
+        """The name means this point behind all statements."""
+        numbers = []
+        for number in (Fraction(x), Fraction(y)):
+            numbers += [number.numerator, number.denominator]
+        self.assertEqual(self.ask(value, text, table, name), [2, 0, 4] + numbers, text)
+
+    def assert_no_meaning(self, text, name, table=TABLE):
+        self.assertEqual(self.ask(value, text, table, name), [0, 0, 0], text)
+
+    def assert_pattern(self, text, wanted, table=TABLE):
+        """The draft means the pattern with this text."""
+        told = byte_list(wanted)
+        answer = self.ask(draft, text, table)
+        self.assertEqual(bytes(answer[2:-1]).decode("ascii"), wanted)
+        self.assertEqual(answer, [len(told), len(told)] + told + [0])
+
+    def assert_not_worked(self, text, statement, kind, table=TABLE):
+        """Both calls refuse to work the text, with this fault's statement and kind."""
+        fault = [-5, 0, 2, statement, kind]
+        self.assertEqual(self.ask(draft, text, table), fault, text)
+        self.assertEqual(self.ask(value, text, table, "a"), fault, text)
+
+    def assert_next_fault(self, statement, kind):
+        """The statement behind those of the draft that can be worked has a fault of this kind."""
+        self.assert_not_worked(WORKED_DRAFT + statement, 7, kind)
+        self.assert_not_worked(WORKED_DRAFT + statement + " let zzz = 1 / 0; let a = 3;", 7, kind)
+
+    def assert_next_worked(self, statement):
+        """The statement behind those of the draft that can be worked can be, too."""
+        self.assertGreater(self.ask(draft, WORKED_DRAFT + statement, TABLE)[0], 0, statement)
