@@ -1,1 +1,1 @@
-"""Seamhall: drafts of garments, read, printed and worked. The calls are in seamdrafts.drafts."""
+"""Seamhall: drafts of garments, and the patterns that they mean. The calls are in seamdrafts.drafts."""

@@ -1,9 +1,10 @@
 """The program's calls. Each answers one list: its number, the bytes told, the signed numbers told."""
 
 from seamdrafts.grammar import read_draft
-from seamdrafts.pattern import pattern_text
+from seamdrafts.pattern_lines import pattern_text, read_pattern
+from seamdrafts.pieces import exact_area
 from seamdrafts.printing import printed
-from seamdrafts.refusals import Refusal, TooLong
+from seamdrafts.refusals import NoPiece, Refusal, TooFine, TooLong
 from seamdrafts.table import read_table
 from seamdrafts.texts import bytes_of, text_of
 from seamdrafts.working import pattern_of, work_all
@@ -21,6 +22,21 @@ def check_lengths(texts):
     for text in texts:
         if len(text) > LONGEST_TEXT:
             raise TooLong()
+
+
+def piece_at(pattern, k):
+    """The pattern's piece k; NoPiece if there's none."""
+    if k >= len(pattern.pieces):
+        raise NoPiece()
+    return pattern.pieces[k]
+
+
+def area_of(found):
+    """Twice a piece's area; TooFine if it can't be told."""
+    area = exact_area(found.corners)
+    if area is None:
+        raise TooFine()
+    return area
 
 
 def read(t):
@@ -67,3 +83,24 @@ def draft(t, m):
         return answer(e.number, [], e.signed)
     told = bytes_of(pattern_text(pattern))
     return answer(len(told), told, [])
+
+
+def judge(p):
+    """How many pieces, seams and hems the pattern has of which the bytes p are the text."""
+    try:
+        check_lengths([p])
+        pattern = read_pattern(p)
+    except Refusal as e:
+        return answer(e.number, [], e.signed)
+    return answer(0, [], [len(pattern.pieces), len(pattern.seams), pattern.hems()])
+
+
+def piece(k, p):
+    """How many corners piece k has of the pattern of which the bytes p are the text, its name, twice its area."""
+    try:
+        check_lengths([p])
+        found = piece_at(read_pattern(p), k)
+        area = area_of(found)
+    except Refusal as e:
+        return answer(e.number, [], e.signed)
+    return answer(len(found.corners), bytes_of(found.name), list(area))

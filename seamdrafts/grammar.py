@@ -5,6 +5,7 @@ steps (what, text): first the steps of its parts, in order, then what is made of
 the same whatever blanks, remarks, noughts and needless parentheses its text has.
 """
 
+from seamdrafts.pieces import FEWEST_CORNERS, MOST_CORNERS
 from seamdrafts.refusals import NoDraft
 from seamdrafts.tokens import BAD, END, NAME, NUMBER, tokens_of
 
@@ -19,8 +20,6 @@ WRONG_TOKEN = 2
 
 DEEPEST = 6
 MOST_STATEMENTS = 128
-FEWEST_CORNERS = 3
-MOST_CORNERS = 16
 
 SUM_WORDS = ("x", "y", "min", "max")
 PLACE_WORDS = ("between", "meet", "foot", "mirror", "turn", "shift")

@@ -1,9 +1,11 @@
-"""A pattern: its pieces, its seams, its text."""
+"""A pattern: its pieces and its seams, and what they must be."""
 
-from seamdrafts.exact import alike, number_text
-from seamdrafts.pieces import edge_length
+from seamdrafts.exact import alike
+from seamdrafts.pieces import are_corners, edge_length
 
 MOST_PIECES = 8
+
+NO_DIRECTION = ((0, 1), (0, 1))
 
 
 class Piece:
@@ -22,6 +24,10 @@ class Pattern:
         self.pieces = []
         self.seams = []
 
+    def has_edge(self, edge):
+        """Whether there is such an edge."""
+        return edge[0] < len(self.pieces) and edge[1] < len(self.pieces[edge[0]].corners)
+
     def is_sewn(self, edge):
         """Whether the edge is in a seam."""
         return any([edge in seam for seam in self.seams])
@@ -34,24 +40,27 @@ class Pattern:
         """Whether two edges are of the same length."""
         return alike(self.length(first), self.length(second))
 
-
-def line_of(words):
-    """A line of a pattern's text."""
-    return " ".join(words) + "\n"
-
-
-def point_words(point):
-    """The two numbers of a point or a direction, as words."""
-    return [number_text(number) for number in point]
+    def hems(self):
+        """How many edges are in no seam."""
+        return sum([len(piece.corners) for piece in self.pieces]) - 2 * len(self.seams)
 
 
-def pattern_text(pattern):
-    """The text of a pattern."""
-    lines = []
-    for piece in pattern.pieces:
-        lines.append(line_of(["piece", piece.name] + point_words(piece.grain)))
-        lines.extend([line_of(point_words(corner)) for corner in piece.corners])
-    for seam in pattern.seams:
-        lines.append(line_of(["seam"] + [str(number) for number in seam[0] + seam[1]]))
-    lines.append(line_of(["end"]))
-    return "".join(lines)
+def pieces_may_be(pattern):
+    """Whether the pieces are of names that differ, and each has a direction as its grain and corners that may be."""
+    names = [piece.name for piece in pattern.pieces]
+    if len(set(names)) < len(names):
+        return False
+    return all([piece.grain != NO_DIRECTION and are_corners(piece.corners) for piece in pattern.pieces])
+
+
+def seams_may_be(pattern):
+    """Whether each seam is of two edges that are there, of one length and in no other seam."""
+    sewn = []
+    for first, second in pattern.seams:
+        for edge in (first, second):
+            if not pattern.has_edge(edge) or edge in sewn:
+                return False
+            sewn.append(edge)
+        if not pattern.are_of_one_length(first, second):
+            return False
+    return True

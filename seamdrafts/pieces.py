@@ -4,7 +4,10 @@ A corner is a point as it's kept: x and y, each a number in lowest terms. What l
 corners: all over one number below the line, and only what's above it.
 """
 
-from seamdrafts.exact import minus, plus, times
+from seamdrafts.exact import lowest, minus, plus, times
+
+FEWEST_CORNERS = 3
+MOST_CORNERS = 16
 
 
 def common_below(corners):
@@ -72,6 +75,12 @@ def are_corners(corners):
     """
     whole = whole_corners(corners, common_below(corners))
     return edges_keep_apart(whole) and twice_area(whole) > 0
+
+
+def exact_area(corners):
+    """Twice the area of a piece with these corners; None if it's too fine."""
+    below = common_below(corners)
+    return lowest((twice_area(whole_corners(corners, below)), below * below))
 
 
 def edge_length(corners, edge):

@@ -24,6 +24,13 @@ class NoDraft(Refusal):
         Refusal.__init__(self, -2, [kind, place])
 
 
+class NoPattern(Refusal):
+    """A text is no pattern's: its fault's line."""
+
+    def __init__(self, line):
+        Refusal.__init__(self, -2, [line, 0])
+
+
 class NoTable(Refusal):
     """A text is no table's: its first line that can't stand."""
 
@@ -31,8 +38,22 @@ class NoTable(Refusal):
         Refusal.__init__(self, -3, [line, 0])
 
 
+class NoPiece(Refusal):
+    """A pattern has no such piece."""
+
+    def __init__(self):
+        Refusal.__init__(self, -4, [])
+
+
 class NotWorked(Refusal):
     """A draft can't be worked over a table: its fault's statement and kind."""
 
     def __init__(self, statement, kind):
         Refusal.__init__(self, -5, [statement, kind])
+
+
+class TooFine(Refusal):
+    """What is to be told is too fine for that."""
+
+    def __init__(self):
+        Refusal.__init__(self, -6, [])

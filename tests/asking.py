@@ -3,7 +3,7 @@
 import unittest
 from fractions import Fraction
 
-from seamdrafts.drafts import draft, print_of, read, value
+from seamdrafts.drafts import draft, judge, piece, print_of, read, value
 
 WORDS = "let point piece seam grain x y min max between meet foot mirror turn shift".split()
 
@@ -41,6 +41,22 @@ piece back (O, A, B) grain O A;
 TABLE = "f 4611686018427387904\ng -4611686018427387904\nh 1/4611686018427387904\nwaist 171/2\nnought 0\n"
 
 
+# The text of the pattern that it means, with a seam more.
+PATTERN = """\
+piece front 0 3
+0 0
+4 0
+4 3
+0 3
+piece back 4 0
+0 0
+4 0
+4 3
+seam 0 0 1 0
+end
+"""
+
+
 def byte_list(text):
     """A text or bytes as the list of numbers that the calls take."""
     if isinstance(text, str):
@@ -48,11 +64,16 @@ def byte_list(text):
     return list(text)
 
 
+def handed_in(given):
+    """What a call takes for a number, a text or bytes."""
+    return given if isinstance(given, int) else byte_list(given)
+
+
 class DraftCase(unittest.TestCase):
-    def ask(self, call, *texts):
+    def ask(self, call, *arguments):
         """The call's answer; what was handed in must be as it was, and asking again must answer the same."""
-        given = [byte_list(text) for text in texts]
-        kept = [list(one) for one in given]
+        given = [handed_in(argument) for argument in arguments]
+        kept = [handed_in(argument) for argument in arguments]
         answer = call(*given)
         self.assertIs(type(answer), list)
         for number in answer:
@@ -124,3 +145,28 @@ class WorkCase(DraftCase):
     def assert_next_worked(self, statement):
         """The statement behind those of the draft that can be worked can be, too."""
         self.assertGreater(self.ask(draft, WORKED_DRAFT + statement, TABLE)[0], 0, statement)
+
+
+class PatternCase(DraftCase):
+    def assert_judged(self, text, pieces, seams, hems):
+        """The text is a pattern's, of so many pieces, seams and hems."""
+        self.assertEqual(self.ask(judge, text), [0, 0, 3, pieces, seams, hems], text)
+
+    def assert_piece(self, k, text, corners, name, area):
+        """The pattern's piece k has so many corners, this name, twice this area."""
+        twice = Fraction(area)
+        told = byte_list(name)
+        wanted = [corners, len(told)] + told + [2, twice.numerator, twice.denominator]
+        self.assertEqual(self.ask(piece, k, text), wanted, text)
+
+    def assert_no_pattern(self, text, line):
+        """Both calls refuse the text, with this line."""
+        refusal = [-2, 0, 2, line, 0]
+        self.assertEqual(self.ask(judge, text), refusal, text)
+        for k in (0, 1, 8, 2 ** 64 - 1):
+            self.assertEqual(self.ask(piece, k, text), refusal, text)
+
+    def assert_refused(self, text, refusal):
+        """Both calls refuse the text so."""
+        self.assertEqual(self.ask(judge, text), refusal)
+        self.assertEqual(self.ask(piece, 0, text), refusal)
