@@ -38,7 +38,7 @@ def over(a, b):
 
 
 def negative(a):
-    """The fraction less twice itself."""
+    """The fraction with the other sign."""
     return (-a[0], a[1])
 
 
