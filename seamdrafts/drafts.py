@@ -1,10 +1,12 @@
 """The program's calls. Each answers one list: its number, the bytes told, the signed numbers told."""
 
+from seamdrafts.exact import lowest
+from seamdrafts.garment import places_one_with
 from seamdrafts.grammar import read_draft
-from seamdrafts.pattern_lines import pattern_text, read_pattern
-from seamdrafts.pieces import exact_area
+from seamdrafts.pattern_lines import pattern_text, places_text, read_pattern
+from seamdrafts.pieces import OUTSIDE, exact_area, where_lies
 from seamdrafts.printing import printed
-from seamdrafts.refusals import NoPiece, Refusal, TooFine, TooLong
+from seamdrafts.refusals import NoPiece, NoPlace, NoPoint, Refusal, TooFine, TooLong
 from seamdrafts.table import read_table
 from seamdrafts.texts import bytes_of, text_of
 from seamdrafts.working import pattern_of, work_all
@@ -24,11 +26,29 @@ def check_lengths(texts):
             raise TooLong()
 
 
+def number_handed_in(above, below):
+    """The number of what is above and below the line; NoPoint if it's none in lowest terms, or too fine."""
+    if below <= 0 or lowest((above, below)) != (above, below):
+        raise NoPoint()
+    return (above, below)
+
+
+def point_handed_in(x_above, x_below, y_above, y_below):
+    """The point of x's two and y's two; NoPoint if they are none's."""
+    return (number_handed_in(x_above, x_below), number_handed_in(y_above, y_below))
+
+
 def piece_at(pattern, k):
     """The pattern's piece k; NoPiece if there's none."""
     if k >= len(pattern.pieces):
         raise NoPiece()
     return pattern.pieces[k]
+
+
+def check_place(pattern, k, point):
+    """Refuses a point that isn't in the pattern's piece k nor on its rim."""
+    if where_lies(piece_at(pattern, k).corners, point) == OUTSIDE:
+        raise NoPlace()
 
 
 def area_of(found):
@@ -104,3 +124,28 @@ def piece(k, p):
     except Refusal as e:
         return answer(e.number, [], e.signed)
     return answer(len(found.corners), bytes_of(found.name), list(area))
+
+
+def where(k, x_above, x_below, y_above, y_below, p):
+    """Where a point lies: 2 strictly inside of piece k, 1 on its rim, 0 outside."""
+    try:
+        check_lengths([p])
+        point = point_handed_in(x_above, x_below, y_above, y_below)
+        found = piece_at(read_pattern(p), k)
+    except Refusal as e:
+        return answer(e.number, [], e.signed)
+    return answer(where_lies(found.corners, point), [], [])
+
+
+def ones(k, x_above, x_below, y_above, y_below, p):
+    """The places that are one with a point of piece k, itself too, a line for each."""
+    try:
+        check_lengths([p])
+        point = point_handed_in(x_above, x_below, y_above, y_below)
+        pattern = read_pattern(p)
+        check_place(pattern, k, point)
+        places = places_one_with(pattern, (k, point))
+    except Refusal as e:
+        return answer(e.number, [], e.signed)
+    told = bytes_of(places_text(places))
+    return answer(len(told), told, [])

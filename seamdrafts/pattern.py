@@ -32,6 +32,15 @@ class Pattern:
         """Whether the edge is in a seam."""
         return any([edge in seam for seam in self.seams])
 
+    def sewn_to(self, edge):
+        """The edge to which this one is sewn; None if it's in no seam."""
+        for first, second in self.seams:
+            if edge == first:
+                return second
+            if edge == second:
+                return first
+        return None
+
     def length(self, edge):
         """An edge's length, as its square."""
         return edge_length(self.pieces[edge[0]].corners, edge[1])

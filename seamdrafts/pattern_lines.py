@@ -30,6 +30,11 @@ def pattern_text(pattern):
     return "".join(lines)
 
 
+def places_text(places):
+    """A line for each place: its piece, its point's two numbers."""
+    return "".join([line_of([str(piece)] + point_words(point)) for piece, point in places])
+
+
 def point_of_words(words):
     """The point or direction of two numbers' texts; None if they are none."""
     numbers = [number_of(word) for word in words]

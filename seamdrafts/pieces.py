@@ -9,6 +9,10 @@ from seamdrafts.exact import lowest, minus, plus, times
 FEWEST_CORNERS = 3
 MOST_CORNERS = 16
 
+OUTSIDE = 0
+ON_RIM = 1
+INSIDE = 2
+
 
 def common_below(corners):
     """A whole number above 0 that may stand below the line in every corner's numbers."""
@@ -21,6 +25,11 @@ def common_below(corners):
 def whole_corners(corners, below):
     """What is above the line in the corners' numbers with this below it."""
     return [(x[0] * (below // x[1]), y[0] * (below // y[1])) for x, y in corners]
+
+
+def all_whole(corners):
+    """The corners as whole ones."""
+    return whole_corners(corners, common_below(corners))
 
 
 def side(a, b, c):
@@ -73,7 +82,7 @@ def are_corners(corners):
     does one that goes back along the one before it: the shorter of the two ends on the longer, and so the edge
     next to it there touches that. Where there are but three edges, all next to one another, there's no area then.
     """
-    whole = whole_corners(corners, common_below(corners))
+    whole = all_whole(corners)
     return edges_keep_apart(whole) and twice_area(whole) > 0
 
 
@@ -90,3 +99,48 @@ def edge_length(corners, edge):
     across = minus(b[0], a[0])
     up = minus(b[1], a[1])
     return plus(times(across, across), times(up, up))
+
+
+def edges_through(whole, spot):
+    """The edges of whole corners on which a whole point lies."""
+    # The point stands for an edge with no length.
+    return [
+        index for index, corner in enumerate(whole)
+        if have_common_point(corner, after(whole, index), spot, spot)
+    ]
+
+
+def goes_round(whole, spot):
+    """Whether whole corners go round a whole point that is on no edge.
+
+    They do if an odd number of edges crosses the way from it to the right. An edge has its lower end for this, but
+    not its upper one: so at a corner on that way one edge crosses it, or both or none where they turn back there.
+    """
+    crossed = False
+    for index, corner in enumerate(whole):
+        following = after(whole, index)
+        turned = side(corner, following, spot)
+        upward = corner[1] <= spot[1] < following[1]
+        downward = following[1] <= spot[1] < corner[1]
+        if (upward and turned > 0) or (downward and turned < 0):
+            crossed = not crossed
+    return crossed
+
+
+def where_among(whole, spot):
+    """Where a whole point lies: inside of a piece with these whole corners, on its rim or outside."""
+    if edges_through(whole, spot) != []:
+        return ON_RIM
+    return INSIDE if goes_round(whole, spot) else OUTSIDE
+
+
+def edges_at(corners, point):
+    """The edges on which a point lies."""
+    whole = all_whole(corners + [point])
+    return edges_through(whole[:-1], whole[-1])
+
+
+def where_lies(corners, point):
+    """Where a point lies: inside of a piece with these corners, on its rim or outside."""
+    whole = all_whole(corners + [point])
+    return where_among(whole[:-1], whole[-1])

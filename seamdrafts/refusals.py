@@ -17,6 +17,13 @@ class TooLong(Refusal):
         Refusal.__init__(self, -1, [])
 
 
+class NoPoint(Refusal):
+    """What is handed in as a point is none."""
+
+    def __init__(self):
+        Refusal.__init__(self, -1, [])
+
+
 class NoDraft(Refusal):
     """A text is no draft's: its fault's kind and place."""
 
@@ -40,6 +47,13 @@ class NoTable(Refusal):
 
 class NoPiece(Refusal):
     """A pattern has no such piece."""
+
+    def __init__(self):
+        Refusal.__init__(self, -4, [])
+
+
+class NoPlace(Refusal):
+    """A point is no place of the piece."""
 
     def __init__(self):
         Refusal.__init__(self, -4, [])

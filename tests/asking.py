@@ -3,11 +3,20 @@
 import unittest
 from fractions import Fraction
 
-from seamdrafts.drafts import draft, judge, piece, print_of, read, value
+from seamdrafts.drafts import draft, judge, ones, piece, print_of, read, value, where
 
 WORDS = "let point piece seam grain x y min max between meet foot mirror turn shift".split()
 
 FINEST = 2 ** 62
+
+# What isn't two numbers in lowest terms: what's above the line, what's below it.
+NO_NUMBERS = [
+    (0, 0), (1, 0), (-1, 0), (0, -1), (1, -1), (-1, -1), (-1, -2), (0, 2), (0, FINEST), (2, 2), (2, 4), (-2, 4),
+    (-6, 9), (15, 35), (FINEST, 2), (2, FINEST), (-2, FINEST), (FINEST, FINEST), (FINEST + 1, 1),
+    (-FINEST - 1, 1), (1, FINEST + 1), (0, FINEST + 1), (FINEST + 1, FINEST), (FINEST, FINEST + 1),
+    (2 ** 63 - 1, 1), (1, 2 ** 63 - 1), (2 ** 63 - 1, 2 ** 63 - 1), (-2 ** 63, 1), (1, -2 ** 63),
+    (-2 ** 63, -2 ** 63), (-2 ** 63, 2 ** 63 - 1), (2 ** 63 - 1, -2 ** 63), (-1, 2 ** 63 - 1),
+]
 
 # Every statement, sum and place there is, in printed form.
 WHOLE_DRAFT = """\
@@ -69,6 +78,34 @@ def handed_in(given):
     return given if isinstance(given, int) else byte_list(given)
 
 
+def point_numbers(x, y):
+    """A point's four numbers, as they are handed in and told."""
+    numbers = []
+    for number in (Fraction(x), Fraction(y)):
+        numbers += [number.numerator, number.denominator]
+    return numbers
+
+
+def pattern_of(pieces, *seams):
+    """The text of a pattern of pieces, of each its corners, and of seams, of each its four numbers' text."""
+    text = ""
+    for index, corners in enumerate(pieces):
+        text += "piece p{} 1 0\n".format(index) + "".join("{} {}\n".format(x, y) for x, y in corners)
+    return text + "".join("seam " + seam + "\n" for seam in seams) + "end\n"
+
+
+def pattern_of_length(length):
+    """The text of a pattern of 8 pieces with 16 corners each that has so many bytes, 4,068 at least."""
+    corners = "".join("{} {}\n".format(10 ** 10 + index, 10 ** 17 + index * index) for index in range(16))
+    more = length - 4068
+    text = ""
+    for index in range(8):
+        longer = min(more, 15)
+        more -= longer
+        text += "piece " + str(index) + "q" * longer + " 1 0\n" + corners
+    return text + "end\n"
+
+
 class DraftCase(unittest.TestCase):
     def ask(self, call, *arguments):
         """The call's answer; what was handed in must be as it was, and asking again must answer the same."""
@@ -116,10 +153,7 @@ class WorkCase(DraftCase):
 
     def assert_point(self, text, name, x, y, table=TABLE):
         """The name means this point behind all statements."""
-        numbers = []
-        for number in (Fraction(x), Fraction(y)):
-            numbers += [number.numerator, number.denominator]
-        self.assertEqual(self.ask(value, text, table, name), [2, 0, 4] + numbers, text)
+        self.assertEqual(self.ask(value, text, table, name), [2, 0, 4] + point_numbers(x, y), text)
 
     def assert_no_meaning(self, text, name, table=TABLE):
         self.assertEqual(self.ask(value, text, table, name), [0, 0, 0], text)
@@ -159,14 +193,38 @@ class PatternCase(DraftCase):
         wanted = [corners, len(told)] + told + [2, twice.numerator, twice.denominator]
         self.assertEqual(self.ask(piece, k, text), wanted, text)
 
-    def assert_no_pattern(self, text, line):
-        """Both calls refuse the text, with this line."""
-        refusal = [-2, 0, 2, line, 0]
-        self.assertEqual(self.ask(judge, text), refusal, text)
-        for k in (0, 1, 8, 2 ** 64 - 1):
-            self.assertEqual(self.ask(piece, k, text), refusal, text)
+    def assert_where(self, wanted, k, x, y, text):
+        """The point lies so to the pattern's piece k."""
+        self.assertEqual(self.ask(where, k, *point_numbers(x, y), text), [wanted, 0, 0], (k, x, y, text))
 
-    def assert_refused(self, text, refusal):
-        """Both calls refuse the text so."""
-        self.assertEqual(self.ask(judge, text), refusal)
-        self.assertEqual(self.ask(piece, 0, text), refusal)
+    def assert_ones(self, text, *lines):
+        """The places of these lines are one, told in this order whichever of them is asked of."""
+        wanted = "".join(line + "\n" for line in lines)
+        told = byte_list(wanted)
+        for line in lines:
+            words = line.split()
+            answer = self.ask(ones, int(words[0]), *point_numbers(words[1], words[2]), text)
+            self.assertEqual(bytes(answer[2:-1]).decode("ascii"), wanted, line)
+            self.assertEqual(answer, [len(told), len(told)] + told + [0])
+
+    def assert_no_ones(self, refusal, k, x, y, text):
+        """The call that tells which places are one is refused with this number."""
+        self.assertEqual(self.ask(ones, k, *point_numbers(x, y), text), [refusal, 0, 0], (k, x, y, text))
+
+    def assert_no_point(self, call, k, text):
+        """The call refuses every point that is none, for its x, its y and both."""
+        for above, below in NO_NUMBERS:
+            for numbers in ((above, below, 0, 1), (0, 1, above, below), (above, below, above, below)):
+                self.assertEqual(self.ask(call, k, *numbers, text), [-1, 0, 0], numbers)
+
+    def assert_no_pattern(self, text, line):
+        """All calls of patterns refuse the text, with this line."""
+        for k in (0, 1, 8, 2 ** 64 - 1):
+            self.assert_refused(text, [-2, 0, 2, line, 0], k)
+
+    def assert_refused(self, text, refusal, k=0):
+        """All calls of patterns refuse the text so."""
+        self.assertEqual(self.ask(judge, text), refusal, text)
+        self.assertEqual(self.ask(piece, k, text), refusal, text)
+        for call in (where, ones):
+            self.assertEqual(self.ask(call, k, 0, 1, 0, 1, text), refusal, text)

@@ -1,7 +1,7 @@
 """Promise 5: judge tells how many pieces, seams and hems a pattern has."""
 
 from seamdrafts.drafts import draft, judge, piece
-from tests.asking import FINEST, PATTERN, TABLE, WORKED_DRAFT, PatternCase, byte_list
+from tests.asking import FINEST, PATTERN, TABLE, WORKED_DRAFT, PatternCase, byte_list, pattern_of_length
 
 TRIANGLE = "0 0\n1 0\n0 1\n"
 AROUND = [(x, 0) for x in range(5)] + [(4, y) for y in range(1, 5)]
@@ -10,18 +10,6 @@ AROUND += [(x, 4) for x in range(3, -1, -1)] + [(0, y) for y in range(3, 0, -1)]
 
 def triangles(count):
     return "".join("piece p{} 1 0\n".format(index) + TRIANGLE for index in range(count))
-
-
-def pattern_of_length(length):
-    """The text of a pattern of 8 pieces with 16 corners each that has so many bytes, 4,068 at least."""
-    corners = "".join("{} {}\n".format(10 ** 10 + index, 10 ** 17 + index * index) for index in range(16))
-    more = length - 4068
-    text = ""
-    for index in range(8):
-        longer = min(more, 15)
-        more -= longer
-        text += "piece " + str(index) + "q" * longer + " 1 0\n" + corners
-    return text + "end\n"
 
 
 class JudgeTest(PatternCase):
