@@ -4,7 +4,7 @@ from seamdrafts.exact import lowest
 from seamdrafts.garment import places_one_with
 from seamdrafts.grammar import read_draft
 from seamdrafts.pattern_lines import pattern_text, places_text, read_pattern
-from seamdrafts.pieces import OUTSIDE, exact_area, where_lies
+from seamdrafts.pieces import OUTSIDE, exact_area, is_straight_cut, where_lies
 from seamdrafts.printing import printed
 from seamdrafts.refusals import NoPiece, NoPlace, NoPoint, Refusal, TooFine, TooLong
 from seamdrafts.table import read_table
@@ -149,3 +149,13 @@ def ones(k, x_above, x_below, y_above, y_below, p):
         return answer(e.number, [], e.signed)
     told = bytes_of(places_text(places))
     return answer(len(told), told, [])
+
+
+def cut(k, i, j, p):
+    """1 if there's a straight cut from corner i of piece k to its corner j, else 0."""
+    try:
+        check_lengths([p])
+        found = piece_at(read_pattern(p), k)
+    except Refusal as e:
+        return answer(e.number, [], e.signed)
+    return answer(1 if is_straight_cut(found.corners, i, j) else 0, [], [])

@@ -144,3 +144,25 @@ def where_lies(corners, point):
     """Where a point lies: inside of a piece with these corners, on its rim or outside."""
     whole = all_whole(corners + [point])
     return where_among(whole[:-1], whole[-1])
+
+
+def is_straight_cut(corners, first, second):
+    """Whether there's a straight cut from one corner of a piece to another, each told from 0.
+
+    Corners that are next to one another need no look of their own, as then the middle is on the rim. Nor do other
+    corners: one that the cut goes through is of an edge that ends at neither of the two, or it's next to both, and
+    then the cut goes along their edges and so does its middle.
+    """
+    if max(first, second) >= len(corners):
+        return False
+    # With doubled corners a middle is whole, too.
+    doubled = [(2 * x, 2 * y) for x, y in all_whole(corners)]
+    a = doubled[first]
+    b = doubled[second]
+    for index, corner in enumerate(doubled):
+        following = (index + 1) % len(corners)
+        of_ends = index in (first, second) or following in (first, second)
+        if not of_ends and have_common_point(a, b, corner, doubled[following]):
+            return False
+    middle = ((a[0] + b[0]) // 2, (a[1] + b[1]) // 2)
+    return where_among(doubled, middle) == INSIDE

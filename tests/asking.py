@@ -3,7 +3,7 @@
 import unittest
 from fractions import Fraction
 
-from seamdrafts.drafts import draft, judge, ones, piece, print_of, read, value, where
+from seamdrafts.drafts import cut, draft, judge, ones, piece, print_of, read, value, where
 
 WORDS = "let point piece seam grain x y min max between meet foot mirror turn shift".split()
 
@@ -228,3 +228,4 @@ class PatternCase(DraftCase):
         self.assertEqual(self.ask(piece, k, text), refusal, text)
         for call in (where, ones):
             self.assertEqual(self.ask(call, k, 0, 1, 0, 1, text), refusal, text)
+        self.assertEqual(self.ask(cut, k, 0, 2, text), refusal, text)
